@@ -1,0 +1,1 @@
+"""Tidecopy: a table copied in pieces while it changes."""
