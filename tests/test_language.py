@@ -1,6 +1,7 @@
 """The package keeps to the subset of Python, as far as a short look at its files can tell."""
 
 import ast
+import builtins
 import pathlib
 import re
 import unittest
@@ -11,6 +12,7 @@ WORDS = ("type typing typing_extensions enum Enum IntEnum StrEnum Flag IntFlag G
 PARTS = ("dataclass", "overload", "contextmanager")
 CALLED = ("len range enumerate zip min max sum abs sorted reversed int str bool list tuple dict set isinstance ord "
           "repr any all divmod super iter next").split()
+DOUBLE = ("__init__", "__len__", "__eq__")
 BARRED = (ast.Global, ast.AsyncFunctionDef, ast.Import, ast.Div, ast.AnnAssign)
 
 
@@ -58,7 +60,7 @@ class Language(unittest.TestCase):
             self.assertEqual([word for word in re.findall(r"\w+", text) if word in WORDS], [], name)
             self.assertEqual([part for part in PARTS if part in text], [], name)
             for word in names_of(tree):
-                self.assertTrue(not word.startswith("_") or word == "__init__", (name, word))
+                self.assertTrue(not word.startswith("_") or word in DOUBLE, (name, word))
 
     def test_statements_and_imports(self):
         for name, text, tree in self.each():
@@ -78,6 +80,41 @@ class Language(unittest.TestCase):
             for node in ast.walk(tree):
                 if isinstance(node, ast.Call) and isinstance(node.func, ast.Name):
                     self.assertIn(node.func.id, own + CALLED, name)
+
+    def test_no_name_is_a_method_and_an_attribute(self):
+        methods, attributes = set(), set()
+        for name, text, tree in self.each():
+            for node in ast.walk(tree):
+                if isinstance(node, ast.ClassDef):
+                    methods |= {part.name for part in node.body if isinstance(part, ast.FunctionDef)}
+                if isinstance(node, ast.Attribute) and isinstance(node.ctx, ast.Store):
+                    attributes.add(node.attr)
+        self.assertEqual(methods & attributes, set())
+        self.assertEqual(attributes & {part for kind in (int, str, bytes, list, dict, set) for part in dir(kind)}, set())
+
+    def test_what_is_bound_has_no_name_of_an_import_a_class_or_a_builtin(self):
+        for name, text, tree in self.each():
+            taken = {alias.name for node in ast.walk(tree) if isinstance(node, ast.ImportFrom) for alias in node.names}
+            taken |= {node.name for node in ast.walk(tree) if isinstance(node, ast.ClassDef)}
+            taken |= set(dir(builtins))
+            bound = {node.arg for node in ast.walk(tree) if isinstance(node, ast.arg)}
+            bound |= {node.id for node in ast.walk(tree) if isinstance(node, ast.Name) and isinstance(node.ctx, ast.Store)}
+            self.assertEqual(bound & taken, set(), name)
+
+    def test_imports_name_the_file_that_defines_and_go_one_way(self):
+        trees = {"tidecopy." + name[:-3]: tree for name, text, tree in self.each()}
+        needs = {name: set() for name in trees}
+        for name, tree in trees.items():
+            for node in tree.body:
+                if isinstance(node, ast.ImportFrom):
+                    needs[name].add(node.module)
+                    there = {part.name for part in trees[node.module].body if hasattr(part, "name")}
+                    there |= {part.targets[0].id for part in trees[node.module].body if isinstance(part, ast.Assign)}
+                    self.assertLessEqual({alias.name for alias in node.names}, there, name)
+        while needs:
+            free = [name for name in needs if not needs[name] & set(needs)]
+            self.assertNotEqual(free, [], needs)
+            needs = {name: needs[name] for name in needs if name not in free}
 
 
 if __name__ == "__main__":

@@ -1,6 +1,21 @@
 """Readings: what looks at a changing table find, and when rows can have been read."""
 
-from tidecopy.tables import carry, check_place, rows_at
+from tidecopy.tables import KEYS, carry, check_place, rows_at
+
+
+def is_stretch(first, last):
+    return 0 <= first < last <= KEYS
+
+
+def stretches_of(keys):
+    """The fewest stretches of just these keys, which rise."""
+    stretches = []
+    for key in keys:
+        if stretches and stretches[-1][1] == key:
+            stretches[-1] = (stretches[-1][0], key + 1)
+        else:
+            stretches.append((key, key + 1))
+    return tuple(stretches)
 
 
 def least_row(rows, first, last):

@@ -26,16 +26,21 @@ def is_row(thing):
     return isinstance(thing, tuple) and len(thing) == 2 and is_key(thing[0]) and is_worth(thing[1])
 
 
-def is_table(thing):
-    """Whether anything is a table."""
-    if not isinstance(thing, tuple) or len(thing) > MOST_ROWS:
+def is_rows(thing, first, last):
+    """Whether anything is rows, keys rising, from first on, less than last; of however many rows."""
+    if not isinstance(thing, tuple):
         return False
-    least = 0
+    least = first
     for row in thing:
-        if not is_row(row) or row[0] < least:
+        if not is_row(row) or not least <= row[0] < last:
             return False
         least = row[0] + 1
     return True
+
+
+def is_table(thing):
+    """Whether anything is a table."""
+    return is_rows(thing, 0, KEYS) and len(thing) <= MOST_ROWS
 
 
 def is_change(thing):
@@ -101,11 +106,15 @@ def rows_at(table, log, place):
     return rows
 
 
+def rising(rows):
+    """A dict of worths by keys as a tuple of pairs, keys rising."""
+    return tuple([(key, rows[key]) for key in sorted(rows)])
+
+
 def table_at(table, log, place):
     """The table behind so many entries of the log; NoPlace."""
     check_place(log, place)
-    rows = rows_at(table, log, place)
-    return tuple([(key, rows[key]) for key in sorted(rows)])
+    return rising(rows_at(table, log, place))
 
 
 def changed(log, low, high):
