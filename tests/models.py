@@ -6,7 +6,7 @@ from tidecopy.tables import is_entry, is_table
 
 
 class Refused(Exception):
-    def __init__(self, name, **fields):
+    def __init__(self, name, /, **fields):
         super().__init__(name)
         self.name = name
         self.fields = fields

@@ -78,6 +78,9 @@ class Language(unittest.TestCase):
             own = [node.name for node in ast.walk(tree) if isinstance(node, (ast.FunctionDef, ast.ClassDef))]
             own += [alias.name for node in ast.walk(tree) if isinstance(node, ast.ImportFrom) for alias in node.names]
             for node in ast.walk(tree):
+                if isinstance(node, ast.Assign) and isinstance(node.value, ast.Subscript):
+                    own += [target.id for target in node.targets if getattr(target, "id", "") == "action"]
+            for node in ast.walk(tree):
                 if isinstance(node, ast.Call) and isinstance(node.func, ast.Name):
                     self.assertIn(node.func.id, own + CALLED, name)
 

@@ -17,6 +17,13 @@ class Reading:
         self.found = []
         self.ended = False
 
+    def copied(self):
+        first, last = self.stretch
+        twin = Reading(self.owner, first, last)
+        twin.found = list(self.found)
+        twin.ended = self.ended
+        return twin
+
     def look_once(self, worths):
         """Find the next row, or the end."""
         first, last = self.stretch
@@ -43,6 +50,19 @@ class House:
         # The place that each life holds, None for none; and open readings by their numbers.
         self.living = {}
         self.running = {}
+
+    def copied(self):
+        """A house that goes on by itself from here."""
+        twin = House()
+        # Worths are never changed in place, so that both may have the same ones.
+        twin.worths = self.worths
+        twin.kept = list(self.kept)
+        twin.first_kept = self.first_kept
+        twin.lives_given = self.lives_given
+        twin.begun = self.begun
+        twin.living = dict(self.living)
+        twin.running = {number: reading.copied() for number, reading in self.running.items()}
+        return twin
 
     def change(self, changes):
         """Do a group of changes; NoChange, TooMany."""

@@ -5,8 +5,8 @@ was dropped, or that a piece has no row of, is told from one that nothing is kno
 """
 
 from tidecopy.errors import NoPlace
-from tidecopy.readings import stretches_of
-from tidecopy.tables import KEYS, changes_of, check_place, rising
+from tidecopy.readings import gaps_between, stretches_of
+from tidecopy.tables import changes_of, check_place, rising
 
 
 def learn_change(known, change):
@@ -42,4 +42,4 @@ def joined(log, pieces, place, *, start=0):
     for low, high, stretch, rows in pieces:
         if high <= place:
             learn_piece(known, stretch, rows)
-    return (known_rows(known), stretches_of([key for key in range(KEYS) if key not in known]))
+    return (known_rows(known), gaps_between(stretches_of(sorted(known))))

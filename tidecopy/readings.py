@@ -18,6 +18,16 @@ def stretches_of(keys):
     return tuple(stretches)
 
 
+def gaps_between(stretches):
+    """The stretches of all keys that are in none of these, which rise and don't touch."""
+    edges = [0]
+    for first, last in stretches:
+        edges += [first, last]
+    edges.append(KEYS)
+    pairs = [(edges[at], edges[at + 1]) for at in range(0, len(edges), 2)]
+    return tuple([(first, last) for first, last in pairs if first < last])
+
+
 def least_row(rows, first, last):
     """The row of the least key from first on, less than last; None without any."""
     for key in range(first, last):

@@ -14,6 +14,13 @@ class Piece:
         self.under_way = False
         self.came = None
 
+    def copied(self):
+        first, last = self.stretch
+        twin = Piece(first, last)
+        twin.under_way = self.under_way
+        twin.came = self.came
+        return twin
+
 
 class Taker:
     """What a life is sure of, and what it gave out."""
@@ -33,6 +40,15 @@ class Taker:
         self.at, rows, sure = saved
         for first, last in sure:
             learn_piece(self.known, (first, last), rows)
+
+    def copied(self):
+        """A taker that goes on by itself from here."""
+        twin = Taker(self.own_life, place=self.at)
+        twin.known = dict(self.known)
+        twin.given = list(self.given)
+        twin.pieces = {number: piece.copied() for number, piece in self.pieces.items()}
+        twin.numbers = dict(self.numbers)
+        return twin
 
     def take(self, entry):
         """Take the next entry; Waits, and it is not taken."""
@@ -129,6 +145,9 @@ class Taker:
     def saved(self):
         """What is to be saved, and is to be begun with."""
         return (self.at, self.rows(), self.sure())
+
+    def asks_for(self, number):
+        return number in self.pieces
 
     def asked_piece(self, number):
         if number not in self.pieces:
